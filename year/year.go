@@ -2,25 +2,22 @@
 package year
 
 import (
-	"strconv"
-
 	"analemma/api"
+	"analemma/decimal"
 )
 
-// most is the last year that can be written, with four digits.
-const most = 9999
+const digits = 4 // of a year, at most
 
 // Parse returns the year that a string names.
 func Parse(s string) (int, api.Errno) {
-	y, err := strconv.Atoi(s)
-	// What is written again would have neither a plus sign nor zeros ahead of other digits.
-	if err != nil || y < 1 || y > most || strconv.Itoa(y) != s {
+	y, ok := decimal.Parse(s, digits)
+	if !ok || y == 0 {
 		return 0, api.ErrForm
 	}
-	if !named(y) {
+	if !named(int(y)) {
 		return 0, api.ErrRange
 	}
-	return y, api.OK
+	return int(y), api.OK
 }
 
 // Print returns a year as a string, if it is named.
@@ -28,7 +25,7 @@ func Print(y int) (string, api.Errno) {
 	if !named(y) {
 		return "", api.ErrArg
 	}
-	return strconv.Itoa(y), api.OK
+	return decimal.Print(int64(y)), api.OK
 }
 
 // named reports whether lines can name a year.
